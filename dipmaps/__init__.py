@@ -1,0 +1,1 @@
+"""Dipmaps: baths that turn shades of cloth into shades."""
