@@ -62,8 +62,7 @@ class Book:
 
     def out(self, bath, shade):
         self.check_bath(bath)
-        if shade not in self.order:
-            raise NoShade(f"the book does not have this shade: {shade!r}")
+        self.check_shade(shade)
         return self.tables[bath][shade]
 
     def changed(self, bath, outs):
@@ -75,3 +74,7 @@ class Book:
     def check_bath(self, bath):
         if bath not in self.tables:
             raise NoBath(f"the book does not have this bath: {bath!r}")
+
+    def check_shade(self, shade):
+        if shade not in self.order:
+            raise NoShade(f"the book does not have this shade: {shade!r}")
